@@ -1,0 +1,1 @@
+"""Exactbeats: a fabric in which each cell leaves in just the beat that an ideal switch tells."""

@@ -1,0 +1,156 @@
+"""That the package has the interface of the document, and keeps to the rules of the language that a test can see."""
+
+import ast
+import builtins
+import pathlib
+import unittest
+import warnings
+
+import exactbeats
+
+FOLDER = pathlib.Path(exactbeats.__file__).parent
+FILES = sorted(FOLDER.rglob("*.py"))
+INTERFACE = {
+    "cells": {"Cell": [], "copies": ["cell"], "is_arrivals": ["lines", "most", "thing"],
+              "cells": ["lines", "most", "arrivals"]},
+    "ideal": {"Ideal": ["push", "due", "let_go", "held", "ahead", "copy"],
+              "ideal_run": ["lines", "most", "arrivals", "ranks"],
+              "ideal_beats": ["lines", "most", "arrivals", "ranks"]},
+    "fewer": {"against": ["most", "scheduler"], "first_beat": ["most"], "is_against": ["most", "thing"]},
+}
+ALLOWED_BUILTINS = """len range enumerate zip min max sum abs sorted reversed int str bool list tuple dict set isinstance
+ord repr any all divmod map ValueError KeyError""".split()
+DOUBLE_UNDERSCORES = ("__init__", "__eq__", "__repr__", "__str__", "__len__")
+BARRED = (ast.Global, ast.AsyncFunctionDef, ast.AsyncFor, ast.AsyncWith, ast.Await, ast.GeneratorExp, ast.Div,
+          ast.Import)
+BARRED_NAMES = """register mro elements open input law version_info with_traceback add_note type typing enum Enum Flag
+dataclass sort""".split()
+
+
+def tree_of(path):
+    return ast.parse(path.read_text(), str(path))
+
+
+def nodes(path, *kinds):
+    return [node for node in ast.walk(tree_of(path)) if isinstance(node, kinds)]
+
+
+class Interface(unittest.TestCase):
+    def test_names_are_defined_where_they_are_listed(self):
+        for module, names in INTERFACE.items():
+            defined = {node.name: node for node in tree_of(FOLDER / f"{module}.py").body
+                       if isinstance(node, (ast.FunctionDef, ast.ClassDef))}
+            for name, parts in names.items():
+                node = defined[name]
+                if isinstance(node, ast.ClassDef):
+                    methods = [part.name for part in node.body if isinstance(part, ast.FunctionDef)]
+                    self.assertLessEqual(set(parts), set(methods), name)
+                else:
+                    self.assertEqual([part.arg for part in node.args.args], parts, name)
+
+
+class Rules(unittest.TestCase):
+    def test_files(self):
+        names = [path.relative_to(FOLDER).as_posix() for path in FILES]
+        self.assertIn("__init__.py", names)
+        for path in FOLDER.rglob("*"):
+            if "__pycache__" not in path.parts:
+                self.assertEqual(path.suffix, ".py")
+                self.assertRegex(path.stem, "^[a-z0-9_]+$")
+
+    def test_sizes_and_characters(self):
+        for path in FILES:
+            text = path.read_text()
+            self.assertLessEqual(len(text.splitlines()), 399, path)
+            for sign in text:
+                self.assertTrue(sign == "\n" or " " <= sign <= "~", path)
+            for line in text.splitlines():
+                self.assertLessEqual(len(line), 120, path)
+            for node in nodes(path, ast.FunctionDef):
+                self.assertLessEqual(node.end_lineno - node.lineno + 1, 40, node.name)
+
+    def test_python_warns_of_nothing(self):
+        with warnings.catch_warnings():
+            warnings.simplefilter("error")
+            for path in FILES:
+                compile(path.read_text(), str(path), "exec")
+
+    def test_imports_are_from_the_package_and_stand_at_the_top(self):
+        for path in FILES:
+            body = tree_of(path).body
+            rest = body[1:] if ast.get_docstring(tree_of(path)) else body
+            imports = [node for node in rest if isinstance(node, ast.ImportFrom)]
+            self.assertEqual(rest[:len(imports)], imports)
+            self.assertEqual(len(nodes(path, ast.ImportFrom)), len(imports))
+            for node in imports:
+                self.assertEqual((node.level, node.module.split(".")[0]), (0, "exactbeats"))
+                source = tree_of(FOLDER / f"{node.module.split('.')[1]}.py")
+                defined = [part.name for part in source.body if isinstance(part, (ast.FunctionDef, ast.ClassDef))]
+                defined += [target.id for part in source.body if isinstance(part, ast.Assign)
+                            for target in part.targets]
+                self.assertLessEqual({each.name for each in node.names}, set(defined))
+                self.assertEqual({each.asname for each in node.names}, {None})
+
+    def test_no_files_import_from_each_other(self):
+        reached = {path.stem: {node.module.split(".")[1] for node in nodes(path, ast.ImportFrom)} for path in FILES}
+        for _ in reached:
+            reached = {name: others.union(*[reached[other] for other in others]) for name, others in reached.items()}
+        for name, others in reached.items():
+            self.assertNotIn(name, others)
+
+    def test_imported_names_are_used(self):
+        for path in FILES:
+            used = {node.id for node in nodes(path, ast.Name)}
+            for node in nodes(path, ast.ImportFrom):
+                self.assertLessEqual({each.name for each in node.names}, used, path)
+
+    def test_module_level(self):
+        for path in FILES:
+            for node in tree_of(path).body:
+                plain = isinstance(node, ast.Expr) and isinstance(node.value, ast.Constant)
+                self.assertTrue(plain or isinstance(
+                    node, (ast.ImportFrom, ast.FunctionDef, ast.ClassDef, ast.Assign)), ast.dump(node))
+
+    def test_barred_parts(self):
+        for path in FILES:
+            self.assertEqual([ast.dump(node) for node in nodes(path, *BARRED)], [])
+            for node in nodes(path, ast.FunctionDef, ast.ClassDef):
+                self.assertEqual(node.decorator_list, [])
+                if isinstance(node, ast.FunctionDef) and node.name.startswith("__"):
+                    self.assertIn(node.name, DOUBLE_UNDERSCORES)
+            for node in nodes(path, ast.Constant):
+                self.assertNotIsInstance(node.value, (float, complex))
+                if isinstance(node.value, str):
+                    self.assertNotIn("%", node.value)
+
+    def test_builtins(self):
+        for path in FILES:
+            for node in nodes(path, ast.Name):
+                if hasattr(builtins, node.id):
+                    self.assertIn(node.id, ALLOWED_BUILTINS)
+                    self.assertIsInstance(node.ctx, ast.Load, node.id)
+            for node in nodes(path, ast.FunctionDef, ast.ClassDef):
+                self.assertFalse(node.name[:2] != "__" and hasattr(builtins, node.name), node.name)
+            for node in nodes(path, ast.arg):
+                self.assertFalse(hasattr(builtins, node.arg), node.arg)
+
+    def test_names(self):
+        for path in FILES:
+            names = [node.id for node in nodes(path, ast.Name)] + [node.attr for node in nodes(path, ast.Attribute)]
+            names += [node.name for node in nodes(path, ast.FunctionDef, ast.ClassDef)]
+            names += [node.arg for node in nodes(path, ast.arg)]
+            for name in names:
+                self.assertNotIn(name, BARRED_NAMES)
+                self.assertFalse(name.startswith("__") and name not in DOUBLE_UNDERSCORES, name)
+
+    def test_no_variable_has_the_name_of_a_class_or_an_import(self):
+        for path in FILES:
+            taken = {each.name for node in nodes(path, ast.ImportFrom) for each in node.names}
+            taken |= {node.name for node in nodes(path, ast.ClassDef)}
+            stored = {node.id for node in nodes(path, ast.Name) if isinstance(node.ctx, ast.Store)}
+            stored |= {node.arg for node in nodes(path, ast.arg)}
+            self.assertEqual(taken & stored, set(), path)
+
+
+if __name__ == "__main__":
+    unittest.main()
