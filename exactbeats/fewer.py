@@ -3,7 +3,7 @@
 from exactbeats.cells import cells, check_most, copies, is_arrivals, is_copy
 from exactbeats.errors import BadScheduler
 from exactbeats.ideal import Ideal, ideal_beats
-from exactbeats.kinds import is_number_below, is_tuple_of
+from exactbeats.kinds import all_unlike, is_number_below, is_tuple_of
 
 
 def first_coming(most):
@@ -21,10 +21,6 @@ def later_coming(most, victim):
 def arrivals_up_to(most, victim, beat):
     """The arrivals of the beats up to this one, both ends counted."""
     return (first_coming(most),) + (later_coming(most, victim),) * beat
-
-
-def all_unlike(items):
-    return len(set(items)) == len(items)
 
 
 def may_go_over(view, thing):

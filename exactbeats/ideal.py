@@ -21,7 +21,16 @@ def check_key(key):
 
 
 def how_many_less(keys, key):
-    return len([other for other in keys if other < key])
+    """How many of ascending keys are less than a key."""
+    low = 0
+    high = len(keys)
+    while low < high:
+        middle = (low + high) // 2
+        if keys[middle] < key:
+            low = middle + 1
+        else:
+            high = middle
+    return low
 
 
 class Ideal:

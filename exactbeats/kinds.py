@@ -1,4 +1,4 @@
-"""The kinds of plain values: integers, numbers, tuples and lots (0.2)."""
+"""The kinds of plain values: integers, numbers, tuples, pairs and lots (0.2)."""
 
 
 def is_integer(thing):
@@ -28,3 +28,13 @@ def is_lot_below(bound, thing):
             return False
         last = item
     return True
+
+
+def is_pair_below(bound, thing):
+    """Whether a thing is a pair of numbers below a bound."""
+    return is_tuple_of(2, thing) and is_number_below(bound, thing[0]) and is_number_below(bound, thing[1])
+
+
+def all_unlike(items):
+    """Whether no two of plain items are equal."""
+    return len(set(items)) == len(items)

@@ -2,7 +2,12 @@
 
 from exactbeats.cells import Cell
 from exactbeats.errors import FabricError, NoKey
+from exactbeats.house import House
 from exactbeats.ideal import Ideal
+from exactbeats.planes import Laid
+from exactbeats.ranks import Program, Ranker
+from exactbeats.rows import Rows
+from exactbeats.switch import Switch
 
 DEEPEST = 40
 MOST_PARTS = 60000
@@ -27,6 +32,8 @@ def odd_things():
         range(0), range(3), slice(0, 1), Ellipsis, NotImplemented, object(), object, int, tuple, len, odd_things,
         lambda *rest: (), generator(), iter(()), iter([]), zip(()), enumerate(()), map(len, ()), reversed([]),
         property(), staticmethod(len), ValueError("x"), NoKey(), Cell, Cell(0, 0, 0, 0, (0,)), Ideal(1),
+        Program(()), Program((("rank", ("num", 1)),)), Ranker((Program(()),)), Rows(1), Switch(1, 1), Laid((1, 1), ()),
+        House(1, 1, 1, 1), (Program(()),) * 13, [Program(())],
         ("",), ("", ""), (None, None), (True, False), (None, None, None), ((), ()), ((), (), ()), (object(), object()),
         ([], []), ([0, 0],), ({}, {}), (Cell(0, 0, 0, 0, (0,)), 0), (0, Ideal(1)),
         nested(DEEPEST, tuple), nested(DEEPEST, list), nested(DEEPEST, lambda inner: {"k": inner}),
@@ -39,6 +46,20 @@ def odd_things():
 def not_integers_from(least, greatest):
     """Things that are no integer of a range."""
     return [thing for thing in odd_things()] + [least - 1, greatest + 1, -10 ** 59, 10 ** 60 - 1]
+
+
+def with_each(items, things):
+    """The tuples that items become with a thing in the place of one of them, place by place."""
+    return [items[:place] + (thing,) + items[place + 1:] for place in range(len(items)) for thing in things]
+
+
+def check_judged(case, judge, args, right):
+    """That of odd things, and of right ones, a judge takes just the right ones; it gives flags."""
+    for thing in odd_things():
+        if not [each for each in right if each.__class__ is thing.__class__ and each == thing]:
+            case.assertIs(judge(*args, thing), False)
+    for thing in right:
+        case.assertIs(judge(*args, thing), True)
 
 
 def check_raises(case, error, fields, call, *args):

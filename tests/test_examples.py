@@ -2,17 +2,40 @@
 
 import unittest
 
-from exactbeats.fewer import against
-from exactbeats.ideal import ideal_beats, ideal_run
+from exactbeats import cells, colours, fewer, house, ideal, matchings, planes, ranks, rows, stable, switch
 
-NAMES = {"against": against, "ideal_run": ideal_run, "ideal_beats": ideal_beats}
+NAMES = {name: thing for module in (cells, colours, fewer, house, ideal, matchings, planes, ranks, rows, stable, switch)
+         for name, thing in vars(module).items() if getattr(thing, "__module__", None) == module.__name__}
 EXAMPLES = {
+    "e01": ("s = (((0, (0, 0)), (1, (0, 0))), ((0, (0, 1)),))",
+            "(stable_matching(s), blocks(s, ((0, 1, 1), (1, 0, 0))), all_stable(s))",
+            "(((0, 0, 0),), [(0, 0)], [((0, 0, 0),)])"),
+    "e02": ("w = Switch(2, 1)",
+            "(w.beat((((0, 5),), ((0, 5),))), w.stores(), w.beat((None, None)), w.slacks())",
+            "(((5, 0), None), (((5, 1),), ()), ((5, 1), None), ((), ()))"),
+    "e03": ("w = ((0, 0), (0, 1), (1, 0), (2, 0))",
+            "(greatest(3, w), is_cover(3, w, ((0,), (0,))), is_crowd(3, w, (1, 2)), needless(3, w), needed(3, w), "
+            "degree(3, w))",
+            "(((0, 1), (1, 0)), True, True, ((0, 0),), ((0, 1),), 3)"),
+    "e04": ("", "with_tie(2, ((0, 0), (1, 1)), 2, (0, 1), (0, 1))", "((0, 1, 0), (1,))"),
+    "e05": ("x = Laid((2, 2), (0, 1, 2))",
+            "(x.put((0, 0)), x.put((1, 2)), x.put((2, 1)), x.laid(), x.lose(1), x.laid(), x.moved(), "
+            "barred_laid((1, 2), 1))",
+            "(0, 0, 0, (((0, 0), 0), ((1, 2), 1), ((2, 1), 1)), (), (((0, 0), 0), ((1, 2), 2), ((2, 1), 2)), 0, None)"),
+    # But for its last part, settings_text((p,)).
+    "e07": ('p = Program((("keep", "n", ("+", ("keep", "n"), ("num", 1))), ("rank", ("*", ("fact", "kind"), '
+            '("keep", "n")))))\nc = Cell(0, 0, 5, 3, (0,))\na = Ranker((p,))',
+            "(a.rank(0, c, 0, 0), a.rank(1, c, 0, 2), a.kept(0))",
+            "(3, 6, {'n': 2})"),
     "e11": ("", "against(1, lambda views: (min(sum(views[-1], ())),))",
             "((((0, 0, (0,)), (0, 0, (0,))), (None, (0, 0, (1,)))), (2, 1), 1)"),
     "e12": ("a = (((0, 0, (0,)), (0, 0, (0,))), (None, (0, 0, (1,))))",
             "(ideal_run(2, 1, a, {(0, 0): 0, (1, 0): 0, (2, 1): 0}), "
             "ideal_beats(2, 1, a, {(0, 0): 5, (1, 0): 4, (2, 1): 0}))",
             "([(0, None), (1, 2)], {(1, 0): 0, (0, 0): 1, (2, 1): 1})"),
+    "e13": ("h = House(1, 2, 1, 2)",
+            "(h.beat(((0, 0, (0,)), (0, 0, (0,)))), h.beat((None, (0, 0, (1,)))), h.counts(), h.whole())",
+            "((0, None), (1, 2), (3, 3, 0), (0, 1))"),
 }
 
 

@@ -276,7 +276,8 @@ class IsAgainst(unittest.TestCase):
                 ((first, second, second), 2, True), ((first, second, other), 2, False), ((second, first), 1, False),
                 ((first, beyond), 1, False), ((first, other), 1, True), ((first, first), 1, False),
                 ((first, (None,) * 4), 1, False), ((first, ((1, 0, (2, 3)),) + (None,) * 3), 1, False),
-                ((first, ((0, 1, (2, 3)),) + (None,) * 3), 1, False), ((first, ((0, 0, (2,)),) + (None,) * 3), 1, False),
+                ((first, ((0, 1, (2, 3)),) + (None,) * 3), 1, False),
+                ((first, ((0, 0, (2,)),) + (None,) * 3), 1, False),
                 ((first, ((0, 0, [2, 3]),) + (None,) * 3), 1, False), ((first, list(other)), 1, False),
                 ((first[:2] + (None, None), other), 1, False), (((first[0],) * 4, other), 1, False)):
             self.assertIs(is_against(2, (arrivals, (beat, 0), beat)), right)

@@ -17,9 +17,27 @@ INTERFACE = {
               "ideal_run": ["lines", "most", "arrivals", "ranks"],
               "ideal_beats": ["lines", "most", "arrivals", "ranks"]},
     "fewer": {"against": ["most", "scheduler"], "first_beat": ["most"], "is_against": ["most", "thing"]},
+    "ranks": {"Program": [], "Ranker": ["rank", "turned", "copy", "kept", "owned"]},
+    "rows": {"is_standing": ["thing"], "copies_for": ["standing", "output"], "Rows": ["put", "take", "standing"]},
+    "stable": {"is_matching": ["standing", "thing"], "is_stable": ["standing", "thing"],
+               "blocks": ["standing", "matching"], "all_stable": ["standing"], "stable_matching": ["standing"],
+               "stable_for_outputs": ["standing"], "matched": ["standing", "matching"]},
+    "switch": {"Switch": ["come", "beats", "phases", "slack", "phase", "send", "beat", "standing", "stores",
+                          "ideal_rows", "slacks", "phase_by", "copy"], "lifts": ["switch", "matching"]},
+    "matchings": {"is_web": ["many", "thing"], "is_pairing": ["many", "web", "thing"],
+                  "is_cover": ["many", "web", "thing"], "is_crowd": ["many", "web", "thing"], "degree": ["many", "web"],
+                  "greatest": ["many", "web"], "needless": ["many", "web"], "needed": ["many", "web"],
+                  "cover": ["many", "web"], "crowd": ["many", "web"]},
+    "colours": {"is_colouring": ["many", "web", "colours", "thing"], "coloured": ["many", "web", "colours"],
+                "with_tie": ["many", "web", "colours", "colouring", "pair"]},
+    "planes": {"ways": ["sizes", "alive", "wishes"], "are_ways": ["sizes", "alive", "wishes", "thing"],
+               "is_barred_laid": ["sizes", "many", "thing"], "barred_laid": ["sizes", "many"],
+               "Laid": ["put", "moved", "put_by", "drop", "back", "lose", "laid", "alive", "free_for", "copy"]},
+    "house": {"House": ["beat", "standing", "stores", "ideal_rows", "slacks", "whole", "counts", "turn", "lose", "back",
+                        "broken", "ways", "book", "copy"]},
 }
-ALLOWED_BUILTINS = """len range enumerate zip min max sum abs sorted reversed int str bool list tuple dict set isinstance
-ord repr any all divmod map ValueError KeyError""".split()
+ALLOWED_BUILTINS = """len range enumerate zip min max sum abs sorted reversed int str bool list tuple dict set
+isinstance ord repr any all divmod map ValueError KeyError""".split()
 DOUBLE_UNDERSCORES = ("__init__", "__eq__", "__repr__", "__str__", "__len__")
 BARRED = (ast.Global, ast.AsyncFunctionDef, ast.AsyncFor, ast.AsyncWith, ast.Await, ast.GeneratorExp, ast.Div,
           ast.Import)
@@ -122,6 +140,30 @@ class Rules(unittest.TestCase):
                 self.assertNotIsInstance(node.value, (float, complex))
                 if isinstance(node.value, str):
                     self.assertNotIn("%", node.value)
+
+    def test_sets_stand_only_where_they_may(self):
+        for path in FILES:
+            tree = tree_of(path)
+            around = {id(part): node for node in ast.walk(tree) for part in ast.iter_child_nodes(node)}
+            for node in ast.walk(tree):
+                called = isinstance(node, ast.Call) and isinstance(node.func, ast.Name) and node.func.id == "set"
+                if called or isinstance(node, (ast.Set, ast.SetComp)):
+                    outer = around[id(node)]
+                    self.assertTrue(isinstance(outer, ast.Call) and outer.func.id in ("len", "sorted"), ast.dump(outer))
+
+    def test_errors_that_are_caught_are_own_ones(self):
+        own = {node.name for node in nodes(FOLDER / "errors.py", ast.ClassDef)}
+        for path in FILES:
+            for node in nodes(path, ast.ExceptHandler):
+                self.assertIn(node.type.id, own)
+            for node in nodes(path, ast.Raise):
+                self.assertIn(node.exc.func.id, own)
+
+    def test_a_list_stands_where_an_own_equality_could_be_asked_late(self):
+        for path in FILES:
+            for node in nodes(path, ast.Call):
+                if isinstance(node.func, ast.Name) and node.func.id in ("any", "all"):
+                    self.assertIsInstance(node.args[0], ast.ListComp)
 
     def test_builtins(self):
         for path in FILES:
