@@ -359,6 +359,12 @@ class Slacks(unittest.TestCase):
         self.assertEqual(lifts(switch, ((1, 2, 2),)), ((0, 0, 1), (0, 0, None), ()))
         self.assertEqual(lifts(Switch(2, 1), ()), ((), ()))
 
+    def test_lifts_change_nothing(self):
+        for switch, matching in itertools.islice(some_phases(), 20):
+            before = repr(state(switch))
+            self.assertEqual(lifts(switch, matching), lifts(switch, matching))
+            self.assertEqual(repr(state(switch)), before)
+
     def test_lifts_are_what_a_phase_does(self):
         for switch, matching in some_phases():
             self.assertEqual(switch.slacks(), slacks_of(switch))
