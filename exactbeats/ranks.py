@@ -9,7 +9,8 @@ from exactbeats.kinds import is_integer_from, is_number_below, is_tuple_of
 DEEPEST_BLOCK = 4
 MOST_STATEMENTS = 60
 MOST_PROGRAMS = 12
-GREATEST_BEAT = 10 ** 9
+# Both beats and what is held are facts: so the bound is that of the numbers of the tongue.
+GREATEST_FACT = GREATEST_RANK
 
 
 def is_statement(thing, depth):
@@ -128,12 +129,12 @@ class Ranker:
 
     def rank(self, beat, cell, output, held):
         """The rank of a copy: the program of its output is run."""
-        if not is_integer_from(0, GREATEST_BEAT, beat):
+        if not is_integer_from(0, GREATEST_FACT, beat):
             raise NoNumber()
         if not isinstance(cell, Cell):
             raise NoCell()
         self._check_output(output)
-        if not is_integer_from(0, GREATEST_RANK, held):
+        if not is_integer_from(0, GREATEST_FACT, held):
             raise NoNumber()
         stream = cell.of_stream
         run = Run(facts_of(beat, cell, output, held), self._kept[output], self._owned[output].get(stream, {}))

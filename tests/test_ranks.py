@@ -427,6 +427,18 @@ class Runs(unittest.TestCase):
         self.assertEqual(ranker.rank(10 ** 9, CELL, 0, HIGH), HIGH)
         self.assertEqual(ranker.rank(0, CELL, 1, 0), 0)
 
+    def test_beats_and_what_is_held_go_up_to_the_greatest_number(self):
+        for fact in ("beat", "held"):
+            ranker = Ranker((rank(("fact", fact)), Program((("keep", "n", ("fact", fact)),))))
+            for number in (0, 10 ** 9, 10 ** 9 + 1, 10 ** 12, HIGH - 1, HIGH):
+                passed = (number, CELL, 0, 0) if fact == "beat" else (0, CELL, 0, number)
+                self.assertEqual(ranker.rank(*passed), number)
+                ranker.rank(*passed[:2], 1, passed[3])
+                self.assertEqual(ranker.kept(1), {"n": number} if number else {})
+            # One more than that is beyond the numbers of the tongue: so the run is wrong, and keeps nothing.
+            self.assertEqual(Ranker((rank(("+", ("fact", fact), num(1))),)).rank(HIGH, CELL, 0, HIGH), HIGH)
+            self.assertEqual(Ranker((rank(("-", ("fact", fact), num(1))),)).rank(HIGH, CELL, 0, HIGH), HIGH - 1)
+
     def test_drawn_programs_as_told_anew(self):
         drawn = Drawn(2)
         ranks = set()
@@ -492,14 +504,14 @@ class Rankers(unittest.TestCase):
     def test_errors_of_rank_in_their_order(self):
         ranker = Ranker((counting(), counting()))
         ranker.rank(0, CELL, 1, 0)
-        for thing in not_integers_from(0, 10 ** 9):
+        for thing in not_integers_from(0, HIGH):
             check_raises(self, NoNumber, {}, ranker.rank, thing, None, None, None)
         for thing in odd_things():
             if not isinstance(thing, Cell):
                 check_raises(self, NoCell, {}, ranker.rank, 0, thing, None, None)
         check_raises(self, NoCell, {}, ranker.rank, 0, (7, 3, 42, 5, (0,)), 0, 0)
         for thing in not_integers_from(0, 1):
-            check_raises(self, NoOutput, {}, ranker.rank, 10 ** 9, CELL, thing, None)
+            check_raises(self, NoOutput, {}, ranker.rank, HIGH, CELL, thing, None)
         for thing in not_integers_from(0, HIGH):
             check_raises(self, NoNumber, {}, ranker.rank, 0, CELL, 1, thing)
         self.assertEqual((ranker.kept(0), ranker.kept(1), ranker.owned(1, 42)), ({}, {"n": 1}, {"m": 2}))
