@@ -5,7 +5,8 @@ from exactbeats.errors import BadArrivals, FewPlanes, NoPhase, NoPlane, NoPlanes
 from exactbeats.kinds import is_integer_from, is_tuple_of
 from exactbeats.planes import MOST_PLANES, check_sizes, is_plane, ways
 from exactbeats.ranks import Program, Ranker
-from exactbeats.switch import Switch
+from exactbeats.runs import ranked
+from exactbeats.switch import Switch, carried_by, cells_of
 
 
 class House:
@@ -42,10 +43,8 @@ class House:
         """A cell gets its ranks, output by output, and comes: returns its number."""
         stream, kind, outs = arrival
         cell = Cell(self._came, line, stream, kind, outs)
-        beat = self._switch.beats()
         held = [len(keys) for keys in self._switch.ideal_rows()]
-        ranked = [(output, self._ranker.rank(beat, cell, output, held[output])) for output in outs]
-        self._switch.come(line, tuple(ranked))
+        self._switch.come(line, ranked(self._ranker, self._switch.beats(), cell, held))
         self._came += 1
         self._copies_came += len(outs)
         return cell.came_as
@@ -57,11 +56,7 @@ class House:
 
     def _phase(self, phase):
         """Makes a phase: what its tries carry."""
-        standing = self._switch.standing()
-        going = []
-        for line, output, place in self._switch.phase():
-            _, key = standing[line][place]
-            going.append((line, output, key[1]))
+        going = carried_by(self._switch)
         tries = 2 if phase in self._broken else 1
         return [self._try_by_planes(going) for _ in range(tries)]
 
@@ -76,7 +71,7 @@ class House:
         for phase in range(self._most + 1):
             self._ways.extend(self._phase(phase))
         self._broken = {}
-        left = tuple([None if key is None else key[1] for key in self._switch.send()])
+        left = cells_of(self._switch.send())
         self._copies_left += len([cell for cell in left if cell is not None])
         self._book.append((tuple(came), left))
         return left

@@ -43,6 +43,11 @@ def keys_that_go(standing, matching):
     return {output: standing[line][place][1] for line, output, place in matching}
 
 
+def cells_that_go(standing, matching):
+    """What goes over by a matching, as triples (line, output, cell)."""
+    return tuple([(line, output, standing[line][place][1][1]) for line, output, place in matching])
+
+
 def blocking(standing, matching):
     """The places of the copies that block, line by line."""
     place_at = {line: place for line, _, place in matching}

@@ -5,7 +5,7 @@ from exactbeats.errors import CameAlready, Late, NoCopies
 from exactbeats.ideal import Ideal, is_rank
 from exactbeats.kinds import is_number_below, is_tuple_of
 from exactbeats.rows import Rows, check_line, check_place
-from exactbeats.stable import by_asks_of_lines, check_matching, keys_that_go
+from exactbeats.stable import by_asks_of_lines, cells_that_go, check_matching, keys_that_go
 
 
 def are_coming(lines, most, thing):
@@ -168,6 +168,17 @@ class Switch:
         other._beats = self._beats
         other._phases = self._phases
         return other
+
+
+def carried_by(switch):
+    """Makes a phase: what it carries, as triples (line, output, cell)."""
+    standing = switch.standing()
+    return cells_that_go(standing, switch.phase())
+
+
+def cells_of(keys):
+    """The numbers of the cells whose keys leave, output by output."""
+    return tuple([None if key is None else key[1] for key in keys])
 
 
 def lifts(switch, matching):

@@ -59,3 +59,7 @@ def drawn_web(drawn, many, ties):
 def drawn_wishes(drawn, lines, many):
     """So many pairs of unlike lines and unlike outputs, ascending."""
     return tuple(sorted(list(zip(drawn.mixed(range(lines)), drawn.mixed(range(lines))))[:many]))
+
+
+def drawn_arrivals(drawn, lines, most, beats, times=1, of=2):
+    return tuple([drawn_arrivals_of_beat(drawn, lines, most, times, of) for _ in range(beats)])

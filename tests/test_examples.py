@@ -2,10 +2,13 @@
 
 import unittest
 
-from exactbeats import cells, colours, fewer, house, ideal, matchings, planes, ranks, rows, stable, switch
+from exactbeats import (accounts, cells, colours, fewer, house, ideal, matchings, packets, planes, ranks, ranktexts,
+                        rows, stable, strangers, switch)
 
-NAMES = {name: thing for module in (cells, colours, fewer, house, ideal, matchings, planes, ranks, rows, stable, switch)
-         for name, thing in vars(module).items() if getattr(thing, "__module__", None) == module.__name__}
+MODULES = (accounts, cells, colours, fewer, house, ideal, matchings, packets, planes, ranks, ranktexts, rows, stable,
+           strangers, switch)
+NAMES = {name: thing for module in MODULES for name, thing in vars(module).items()
+         if getattr(thing, "__module__", None) == module.__name__}
 EXAMPLES = {
     "e01": ("s = (((0, (0, 0)), (1, (0, 0))), ((0, (0, 1)),))",
             "(stable_matching(s), blocks(s, ((0, 1, 1), (1, 0, 0))), all_stable(s))",
@@ -22,11 +25,16 @@ EXAMPLES = {
             "(x.put((0, 0)), x.put((1, 2)), x.put((2, 1)), x.laid(), x.lose(1), x.laid(), x.moved(), "
             "barred_laid((1, 2), 1))",
             "(0, 0, 0, (((0, 0), 0), ((1, 2), 1), ((2, 1), 1)), (), (((0, 0), 0), ((1, 2), 2), ((2, 1), 2)), 0, None)"),
-    # But for its last part, settings_text((p,)).
     "e07": ('p = Program((("keep", "n", ("+", ("keep", "n"), ("num", 1))), ("rank", ("*", ("fact", "kind"), '
             '("keep", "n")))))\nc = Cell(0, 0, 5, 3, (0,))\na = Ranker((p,))',
-            "(a.rank(0, c, 0, 0), a.rank(1, c, 0, 2), a.kept(0))",
-            "(3, 6, {'n': 2})"),
+            "(a.rank(0, c, 0, 0), a.rank(1, c, 0, 2), a.kept(0), settings_text((p,)))",
+            "(3, 6, {'n': 2}, 'out 0\\nkeep n (out:n + 1)\\nrank (kind * out:n)\\n')"),
+    "e08": ("z = Program(())", "account_of(2, 1, (z, z), (((0, 0, (0,)), (0, 0, (0,))),))",
+            "{'carried': [[((0, 0, 0),), ((1, 0, 1),)], [(), ()]], 'sent': [(0, None), (1, None)]}"),
+    "e09": ("g = Gatherer(1)",
+            "(cells_in((1, 2, (0,), (9, 8, 7, 6, 5))), g.comes(0, (0, 1, 0, (5,), 12)), g.lacking(0), "
+            "g.comes(0, (0, 0, 1, (9, 8, 7, 6), 81)))",
+            "(2, None, [(0, (0,))], (9, 8, 7, 6, 5))"),
     "e11": ("", "against(1, lambda views: (min(sum(views[-1], ())),))",
             "((((0, 0, (0,)), (0, 0, (0,))), (None, (0, 0, (1,)))), (2, 1), 1)"),
     "e12": ("a = (((0, 0, (0,)), (0, 0, (0,))), (None, (0, 0, (1,))))",

@@ -41,6 +41,7 @@ class PlainHouse:
     def __init__(self, lines):
         self.ideal, self.ranker = Ideal(lines), Ranker((Program(()),) * lines)
         self.lines, self.beats, self.number, self.left, self.keys, self.book = lines, 0, 0, 0, {}, []
+        self.ranks = {}
 
     def beat(self, arrivals):
         came = []
@@ -52,6 +53,7 @@ class PlainHouse:
                 for output, rank in zip(arrival[2], ranks):
                     self.ideal.push(output, (rank, self.number))
                     self.keys[self.number, output] = line
+                    self.ranks[self.number, output] = rank
                 came.append((self.number, line))
                 self.number += 1
         left = tuple([self.ideal.let_go(output)[1] if self.ideal.held(output) else None

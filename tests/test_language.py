@@ -35,6 +35,13 @@ INTERFACE = {
                "Laid": ["put", "moved", "put_by", "drop", "back", "lose", "laid", "alive", "free_for", "copy"]},
     "house": {"House": ["beat", "standing", "stores", "ideal_rows", "slacks", "whole", "counts", "turn", "lose", "back",
                         "broken", "ways", "book", "copy"]},
+    "ranktexts": {"settings_text": ["programs"], "read_settings": ["text"]},
+    "accounts": {"account_of": ["lines", "most", "programs", "arrivals"],
+                 "is_right_account": ["lines", "most", "programs", "arrivals", "thing"]},
+    "strangers": {"led": ["lines", "most", "programs", "arrivals", "phases", "stranger"], "asking": ["view"],
+                  "greedy": ["view"]},
+    "packets": {"cells_in": ["packet"], "is_load": ["thing"], "laid": ["lines", "most", "rows"],
+                "Gatherer": ["comes", "lacking"], "delivered": ["lines", "most", "programs", "rows"]},
 }
 ALLOWED_BUILTINS = """len range enumerate zip min max sum abs sorted reversed int str bool list tuple dict set
 isinstance ord repr any all divmod map ValueError KeyError""".split()
