@@ -73,6 +73,14 @@ def is_arrival(lines, most, thing):
     return is_number_below(STREAMS, stream) and is_number_below(KINDS, kind) and are_outs(lines, most, outs)
 
 
+def first_wrong_item(lines, most, coming):
+    """The first line of a beat whose item is neither None nor an arrival; None if there is none."""
+    for line, item in enumerate(coming):
+        if item is not None and not is_arrival(lines, most, item):
+            return line
+    return None
+
+
 def arrivals_fault(lines, most, thing):
     """The field of the BadArrivals that is due for a thing; None for arrivals."""
     if not isinstance(thing, tuple) or len(thing) > MOST_BEATS:
@@ -82,9 +90,9 @@ def arrivals_fault(lines, most, thing):
             return beat
     # Only now the items: a beat of a wrong form is named ahead of a wrong item, even of an earlier beat (0.3).
     for beat, coming in enumerate(thing):
-        for line, item in enumerate(coming):
-            if item is not None and not is_arrival(lines, most, item):
-                return (beat, line)
+        line = first_wrong_item(lines, most, coming)
+        if line is not None:
+            return (beat, line)
     return None
 
 

@@ -1,6 +1,6 @@
 """A house: a whole fabric, with programs that give ranks and planes that carry what goes over (12.1, 12.2)."""
 
-from exactbeats.cells import Cell, check_most, is_arrival
+from exactbeats.cells import Cell, check_most, first_wrong_item
 from exactbeats.errors import BadArrivals, FewPlanes, NoPhase, NoPlane, NoPlanes
 from exactbeats.kinds import is_integer_from, is_tuple_of
 from exactbeats.planes import MOST_PLANES, check_sizes, is_plane, ways
@@ -35,9 +35,9 @@ class House:
     def _check_arrivals(self, arrivals):
         if not is_tuple_of(self._lines, arrivals):
             raise BadArrivals(-1)
-        for line, item in enumerate(arrivals):
-            if item is not None and not is_arrival(self._lines, self._most, item):
-                raise BadArrivals(line)
+        wrong = first_wrong_item(self._lines, self._most, arrivals)
+        if wrong is not None:
+            raise BadArrivals(wrong)
 
     def _come(self, line, arrival):
         """A cell gets its ranks, output by output, and comes: returns its number."""

@@ -53,14 +53,19 @@ def unlike_pairs(web):
     return sorted(set(web))
 
 
-def is_pairing(many, web, thing):
-    """Whether a thing is a pairing of a web."""
-    check_web(many, web)
-    if not isinstance(thing, tuple) or not all([is_pair_below(many, pair) and pair in web for pair in thing]):
+def are_apart_below(many, thing):
+    """Whether a thing is an ascending tuple of pairs below many, no two of one line or of one output."""
+    if not isinstance(thing, tuple) or not all([is_pair_below(many, pair) for pair in thing]):
         return False
     # Unlike lines that ascend make unlike pairs that ascend.
     lines = [line for line, _ in thing]
     return lines == sorted(lines) and all_unlike(lines) and all_unlike([output for _, output in thing])
+
+
+def is_pairing(many, web, thing):
+    """Whether a thing is a pairing of a web."""
+    check_web(many, web)
+    return are_apart_below(many, thing) and all([pair in web for pair in thing])
 
 
 def moves_in(outputs_of, line_of, line, seen):

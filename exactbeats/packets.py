@@ -1,15 +1,15 @@
 """Packets cut into cells, and put together again at outputs (14.1, 14.2)."""
 
 from exactbeats.accounts import account_of
-from exactbeats.cells import (GREATEST_CELL, KINDS, MOST_BEATS, MOST_COPIES, MOST_LINES, STREAMS, are_outs, check_lines,
+from exactbeats.cells import (KINDS, MOST_BEATS, MOST_COPIES, MOST_LINES, STREAMS, are_outs, check_lines,
                               check_most)
 from exactbeats.errors import BadLoad, BadRows, Mixed, NoNumber, NoOutput, NoPacket, Twice
 from exactbeats.kinds import is_integer_from, is_number_below, is_tuple_of
 
 MOST_WORDS = 40
 WORDS_OF_A_CELL = 4
-MOST_PARTS = MOST_WORDS // WORDS_OF_A_CELL
-GREATEST_PACKET = GREATEST_CELL
+MOST_PARTS = 10
+GREATEST_PACKET = 10 ** 9
 WORD_BOUND = 256
 CHECK_BOUND = 251
 LAST_BEGINNING = 100

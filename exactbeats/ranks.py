@@ -9,8 +9,8 @@ from exactbeats.kinds import is_integer_from, is_number_below, is_tuple_of
 DEEPEST_BLOCK = 4
 MOST_STATEMENTS = 60
 MOST_PROGRAMS = 12
-# Both beats and what is held are facts: so the bound is that of the numbers of the tongue.
-GREATEST_FACT = GREATEST_RANK
+# Of a beat, and of what is held: both are facts, so the bound is that of the numbers of the tongue.
+GREATEST_FACT = 10 ** 18
 
 
 def is_statement(thing, depth):

@@ -37,18 +37,17 @@ def row_of(lot):
 
 def asking(view):
     """The stranger that makes the stable matching by asks of lines, as the switch does."""
-    _, _, lots = view
-    standing = tuple([row_of(lot) for lot in lots])
+    standing = tuple([row_of(lot) for lot in view[2]])
     return cells_that_go(standing, by_asks_of_lines(standing))
 
 
 def greedy(view):
     """The stranger that takes the least key that can still be matched, then the next."""
-    _, _, lots = view
+    asked = sorted([(key, line, output) for line, lot in enumerate(view[2]) for output, key in lot])
     lines = []
     outputs = []
     going = []
-    for key, line, output in sorted([(key, line, output) for line, lot in enumerate(lots) for output, key in lot]):
+    for key, line, output in asked:
         if line not in lines and output not in outputs:
             lines.append(line)
             outputs.append(output)

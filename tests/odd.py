@@ -1,9 +1,12 @@
 """What the tests share: things of all built-in kinds, big and deep ones, and a check of errors."""
 
+from exactbeats.bounds import Buckets
 from exactbeats.cells import Cell
+from exactbeats.desk import Desk
 from exactbeats.errors import FabricError, NoKey
 from exactbeats.house import House
 from exactbeats.ideal import Ideal
+from exactbeats.packets import Gatherer
 from exactbeats.planes import Laid
 from exactbeats.ranks import Program, Ranker
 from exactbeats.rows import Rows
@@ -33,7 +36,7 @@ def odd_things():
         lambda *rest: (), generator(), iter(()), iter([]), zip(()), enumerate(()), map(len, ()), reversed([]),
         property(), staticmethod(len), ValueError("x"), NoKey(), Cell, Cell(0, 0, 0, 0, (0,)), Ideal(1),
         Program(()), Program((("rank", ("num", 1)),)), Ranker((Program(()),)), Rows(1), Switch(1, 1), Laid((1, 1), ()),
-        House(1, 1, 1, 1), (Program(()),) * 13, [Program(())],
+        House(1, 1, 1, 1), Gatherer(1), Desk(1, 1, 1, 1), Buckets(1, (None,)), (Program(()),) * 13, [Program(())],
         ("",), ("", ""), (None, None), (True, False), (None, None, None), ((), ()), ((), (), ()), (object(), object()),
         ([], []), ([0, 0],), ({}, {}), (Cell(0, 0, 0, 0, (0,)), 0), (0, Ideal(1)),
         nested(DEEPEST, tuple), nested(DEEPEST, list), nested(DEEPEST, lambda inner: {"k": inner}),

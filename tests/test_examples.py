@@ -2,11 +2,11 @@
 
 import unittest
 
-from exactbeats import (accounts, cells, colours, fewer, house, ideal, matchings, packets, planes, ranks, ranktexts,
-                        rows, stable, strangers, switch)
+from exactbeats import (accounts, bounds, cells, colours, desk, fewer, frames, house, ideal, matchings, packets, planes,
+                        ranks, ranktexts, rows, stable, strangers, switch)
 
-MODULES = (accounts, cells, colours, fewer, house, ideal, matchings, packets, planes, ranks, ranktexts, rows, stable,
-           strangers, switch)
+MODULES = (accounts, bounds, cells, colours, desk, fewer, frames, house, ideal, matchings, packets, planes, ranks,
+           ranktexts, rows, stable, strangers, switch)
 NAMES = {name: thing for module in MODULES for name, thing in vars(module).items()
          if getattr(thing, "__module__", None) == module.__name__}
 EXAMPLES = {
@@ -25,6 +25,10 @@ EXAMPLES = {
             "(x.put((0, 0)), x.put((1, 2)), x.put((2, 1)), x.laid(), x.lose(1), x.laid(), x.moved(), "
             "barred_laid((1, 2), 1))",
             "(0, 0, 0, (((0, 0), 0), ((1, 2), 1), ((2, 1), 1)), (), (((0, 0), 0), ((1, 2), 2), ((2, 1), 2)), 0, None)"),
+    "e06": ("b = Buckets(2, ((2, 1, 0), (2, 1, 1)))",
+            "(greatest_hold(b), worst_stream(b), greatest_wait(b, 0), greatest_wait(b, 1), breach(b, ((0,),) * 5), "
+            "is_round(((1, 0), (1, 1)), 2, (((0, 0), (1, 1)), ((1, 0),))))",
+            "(4, ((0, 1), (0, 1), (0, 1), (0, 1)), 0, 7, (0, 0, 4), True)"),
     "e07": ('p = Program((("keep", "n", ("+", ("keep", "n"), ("num", 1))), ("rank", ("*", ("fact", "kind"), '
             '("keep", "n")))))\nc = Cell(0, 0, 5, 3, (0,))\na = Ranker((p,))',
             "(a.rank(0, c, 0, 0), a.rank(1, c, 0, 2), a.kept(0), settings_text((p,)))",
@@ -35,6 +39,7 @@ EXAMPLES = {
             "(cells_in((1, 2, (0,), (9, 8, 7, 6, 5))), g.comes(0, (0, 1, 0, (5,), 12)), g.lacking(0), "
             "g.comes(0, (0, 0, 1, (9, 8, 7, 6), 81)))",
             "(2, None, [(0, (0,))], (9, 8, 7, 6, 5))"),
+    "e10": ("", 'tale(1, 2, 1, 1, ["beat 0.0>0 0.0>0", "count", "run 1", "planes"])', "['0 -', '2 1 1', '1 -', '0']"),
     "e11": ("", "against(1, lambda views: (min(sum(views[-1], ())),))",
             "((((0, 0, (0,)), (0, 0, (0,))), (None, (0, 0, (1,)))), (2, 1), 1)"),
     "e12": ("a = (((0, 0, (0,)), (0, 0, (0,))), (None, (0, 0, (1,))))",
@@ -48,6 +53,9 @@ EXAMPLES = {
 
 
 class Examples(unittest.TestCase):
+    def test_there_are_all_of_them(self):
+        self.assertEqual(sorted(EXAMPLES), [f"e{number:02}" for number in range(1, 14)])
+
     def test_examples(self):
         for name, (behind, call, told) in EXAMPLES.items():
             with self.subTest(name):

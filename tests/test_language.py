@@ -42,10 +42,21 @@ INTERFACE = {
                   "greedy": ["view"]},
     "packets": {"cells_in": ["packet"], "is_load": ["thing"], "laid": ["lines", "most", "rows"],
                 "Gatherer": ["comes", "lacking"], "delivered": ["lines", "most", "programs", "rows"]},
+    "texts": {"arrivals_text": ["arrivals"], "read_arrivals": ["lines", "most", "text"]},
+    "desk": {"Desk": ["tell"], "tale": ["n", "r", "most", "planes", "lines"]},
+    "bounds": {"Buckets": [], "most_sent": ["buckets", "line", "beats"], "breach": ["buckets", "stream"],
+               "played": ["buckets", "stream"], "greatest_hold": ["buckets"], "greatest_wait": ["buckets", "kind"],
+               "greatest_burst": ["buckets", "line", "top", "kind", "most"],
+               "greatest_top": ["buckets", "line", "burst", "kind", "most"], "worst_stream": ["buckets"],
+               "worst_stream_for": ["buckets", "kind"], "with_row": ["buckets", "line", "row"],
+               "let_in": ["buckets", "line", "row", "most"]},
+    "frames": {"round_of": ["table", "beats"], "shares": ["table"], "evened": ["table", "beats"],
+               "is_round": ["table", "beats", "thing"], "are_shares": ["table", "thing"]},
 }
 ALLOWED_BUILTINS = """len range enumerate zip min max sum abs sorted reversed int str bool list tuple dict set
 isinstance ord repr any all divmod map ValueError KeyError""".split()
 DOUBLE_UNDERSCORES = ("__init__", "__eq__", "__repr__", "__str__", "__len__")
+LIBRARY = [("heapq", {"heappop", "heappush"})]
 BARRED = (ast.Global, ast.AsyncFunctionDef, ast.AsyncFor, ast.AsyncWith, ast.Await, ast.GeneratorExp, ast.Div,
           ast.Import)
 BARRED_NAMES = """register mro elements open input law version_info with_traceback add_note type typing enum Enum Flag
@@ -58,6 +69,11 @@ def tree_of(path):
 
 def nodes(path, *kinds):
     return [node for node in ast.walk(tree_of(path)) if isinstance(node, kinds)]
+
+
+def own_imports(imports):
+    """Those that are not of the library's few words that may be imported."""
+    return [node for node in imports if (node.module, {each.name for each in node.names}) not in LIBRARY]
 
 
 class Interface(unittest.TestCase):
@@ -107,7 +123,7 @@ class Rules(unittest.TestCase):
             imports = [node for node in rest if isinstance(node, ast.ImportFrom)]
             self.assertEqual(rest[:len(imports)], imports)
             self.assertEqual(len(nodes(path, ast.ImportFrom)), len(imports))
-            for node in imports:
+            for node in own_imports(imports):
                 self.assertEqual((node.level, node.module.split(".")[0]), (0, "exactbeats"))
                 source = tree_of(FOLDER / f"{node.module.split('.')[1]}.py")
                 defined = [part.name for part in source.body if isinstance(part, (ast.FunctionDef, ast.ClassDef))]
@@ -117,7 +133,8 @@ class Rules(unittest.TestCase):
                 self.assertEqual({each.asname for each in node.names}, {None})
 
     def test_no_files_import_from_each_other(self):
-        reached = {path.stem: {node.module.split(".")[1] for node in nodes(path, ast.ImportFrom)} for path in FILES}
+        reached = {path.stem: {node.module.split(".")[1] for node in own_imports(nodes(path, ast.ImportFrom))}
+                   for path in FILES}
         for _ in reached:
             reached = {name: others.union(*[reached[other] for other in others]) for name, others in reached.items()}
         for name, others in reached.items():
@@ -162,7 +179,9 @@ class Rules(unittest.TestCase):
         own = {node.name for node in nodes(FOLDER / "errors.py", ast.ClassDef)}
         for path in FILES:
             for node in nodes(path, ast.ExceptHandler):
-                self.assertIn(node.type.id, own)
+                self.assertIsNone(node.name)
+                for each in node.type.elts if isinstance(node.type, ast.Tuple) else [node.type]:
+                    self.assertIn(each.id, own)
             for node in nodes(path, ast.Raise):
                 self.assertIn(node.exc.func.id, own)
 
