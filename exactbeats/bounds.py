@@ -178,9 +178,10 @@ def sends(buckets, line, beat):
     return most_of(buckets.bottom, row, beat + 1) > most_of(buckets.bottom, row, beat)
 
 
-def soonest(buckets, lines, beat):
-    """The lot of those of some lines that send in a beat, if each sends as soon as it may."""
-    return tuple([line for line in lines if sends(buckets, line, beat)])
+def soonest(buckets, beats):
+    """The stream of so many beats in which each line sends as soon as it may."""
+    lines = list(range(len(buckets.rows)))
+    return tuple([tuple([line for line in lines if sends(buckets, line, beat)]) for beat in range(beats)])
 
 
 def worst_stream(buckets):
@@ -188,13 +189,11 @@ def worst_stream(buckets):
     most = greatest_hold(buckets)
     if most is None:
         raise Boundless()
-    lots = []
-    held = 0
-    while held < most:
-        lots.append(soonest(buckets, list(range(len(buckets.rows))), len(lots)))
-        held += len(lots[-1])
-        held -= 1 if held > 0 else 0
-    return tuple(lots)
+    # Up to the first time that the most are held something leaves in each beat.
+    beats = 0
+    while most_together(buckets.bottom, buckets.rows, beats) - beats < most:
+        beats += 1
+    return soonest(buckets, beats)
 
 
 def is_boundless(buckets, kind):
@@ -204,8 +203,7 @@ def is_boundless(buckets, kind):
 
 
 def longest_wait(buckets, kind):
-    """The longest wait of a cell of a kind that has a line and a bound, and the number of beats in which cells of this
-    kind come for it."""
+    """The longest wait of a cell of a kind that has a line and a bound, and the beats up to its end."""
     own = rows_of(buckets, [kind])
     lesser = rows_of(buckets, list(range(kind)))
     longest = (0, 1)
@@ -217,7 +215,7 @@ def longest_wait(buckets, kind):
         while end < ahead + most_together(buckets.bottom, lesser, end):
             end = ahead + most_together(buckets.bottom, lesser, end)
         if end - beats > longest[0]:
-            longest = (end - beats, beats)
+            longest = (end - beats, end)
     return longest
 
 
@@ -231,11 +229,6 @@ def greatest_wait(buckets, kind):
     return longest_wait(buckets, kind)[0]
 
 
-def lines_of(buckets, kinds):
-    """The lines whose kinds are among some."""
-    return [line for line, row in enumerate(buckets.rows) if row is not None and row[2] in kinds]
-
-
 def worst_stream_for(buckets, kind):
     """A stream in which a cell of a kind waits as long as it can."""
     check_kind(kind)
@@ -243,18 +236,15 @@ def worst_stream_for(buckets, kind):
         raise NoCell()
     if is_boundless(buckets, kind):
         raise Boundless()
-    wait, beats = longest_wait(buckets, kind)
-    both = lines_of(buckets, list(range(kind + 1)))
-    lesser = lines_of(buckets, list(range(kind)))
-    # The last cell of this kind to come is the one that waits: behind it only those of lesser kinds matter.
-    return tuple([soonest(buckets, both if beat < beats else lesser, beat) for beat in range(beats + wait)])
+    # What comes behind the cell that waits, of its own kind and of greater ones, does not go ahead of it.
+    _, end = longest_wait(buckets, kind)
+    return soonest(buckets, end)
 
 
 def with_row(buckets, line, row):
     """Other buckets, with this row for a line."""
     check_line(buckets, line)
-    if row is not None and not is_bucket(buckets.bottom, row):
-        raise BadBuckets(line)
+    # The other rows are right: what is wrong with these buckets is wrong with this line.
     return Buckets(buckets.bottom, buckets.rows[:line] + (row,) + buckets.rows[line + 1:])
 
 

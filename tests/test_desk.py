@@ -16,7 +16,7 @@ from tests.test_ranks import drawn_block
 
 A = (0, 0, (0,))
 NO_NUMBERS = ("", " ", "00", "01", "-1", "+1", "-0", "1.", "1.0", "a", "1a", "1 ", " 1", "1 1", "1_0", "1;", "1,", "0x1",
-              "1" * 20, "1" * 19000, "1\n", "\t1", "one")
+              "1" * 20, "1" * 19000, "1\n", "\t1", "one", chr(0x661), chr(0xb2), "1" + chr(0x661))
 
 
 def settings_line(programs):

@@ -213,6 +213,18 @@ class Shares(unittest.TestCase):
                           (one, (2, ((0, 0), (1, thing))))):
                 self.assertIs(are_shares(even, other), False)
 
+    def test_each_is_whole_unlike_and_from_1_on(self):
+        """Of things that stand together as often as the table tells, and are not too many."""
+        straight, across = ((0, 0), (1, 1)), ((0, 1), (1, 0))
+        once, twice = ((1, 0), (0, 1)), ((2, 0), (0, 2))
+        self.assertIs(are_shares(once, ((1, straight),)), True)
+        self.assertIs(are_shares(once, ((1, ((0, 0),)), (1, ((1, 1),)))), False)
+        self.assertIs(are_shares(once, ((1, straight), (0, across))), False)
+        self.assertIs(are_shares(once, ((1, straight), (1, ()))), False)
+        self.assertIs(are_shares(twice, ((2, straight),)), True)
+        self.assertIs(are_shares(twice, ((1, straight), (1, straight))), False)
+        self.assertIs(are_shares(twice, ((3, straight), (-1, straight))), False)
+
     def test_at_most_so_many(self):
         # All six whole matchings of three lines: one more than (3 - 1) ** 2 + 1.
         every = [tuple(enumerate(outputs)) for outputs in itertools.permutations(range(3))]
