@@ -193,6 +193,8 @@ class Judged(unittest.TestCase):
             [[(one,), (two,)], [(), ()]], [[(one,), ()], [(two,), ()]], [[(one,), ()], [(), (two,)]],
             [[(), (one,)], [(two,), ()]], [[(), (one,)], [(), (two,)]], [[(two,), (one,)], [(), ()]])])
         self.right({"sent": sent, "carried": [[(one,), (two,)], [(), ()]]})
+        # A dict with both: what else it holds is not judged.
+        self.right({"sent": sent, "carried": [[(one,), (two,)], [(), ()]], "more": None, 0: [None]})
         # Late, twice, never, two for one output, of another line, of another output, of no cell, in another order.
         self.wrong(*[{"carried": carried, "sent": sent} for carried in (
             [[(two,), ()], [(one,), ()]], [[(one,), (one,)], [(two,), ()]], [[(one,), ()], [(one,), (two,)]],
